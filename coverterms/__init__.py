@@ -1,0 +1,1 @@
+"""Coverterms: who pays when a part fails."""

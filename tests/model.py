@@ -1,0 +1,73 @@
+"""A second, slow reading of 0.7 to 0.10, against which the package is compared."""
+
+
+class Model:
+    """A part in use: its age and, for each payer, days and claims left."""
+
+    def __init__(self, part):
+        self.price, lives, self.most, terms = part
+        self.lives = dict(lives)
+        self.terms = [
+            dict(zip(["payer", "days", "kinds", "renewal", "claims", "sale"], term))
+            for term in terms
+        ]
+        self.age = 0
+        for term in self.terms:
+            self.refill(term)
+
+    def refill(self, term):
+        term["left"] = term["days"]
+        term["uses"] = term["claims"] if term["claims"] else None
+
+    def state(self):
+        return (
+            self.age,
+            tuple(
+                (term["left"], -1 if term["uses"] is None else term["uses"])
+                for term in self.terms
+            ),
+        )
+
+    def events(self):
+        found = []
+        if self.most == 0 or self.age < self.most:
+            found.append("")
+        for kind in "abc":
+            if kind in self.lives and self.age >= self.lives[kind]:
+                found.append(kind)
+        return found
+
+    def asked(self, kind):
+        return [
+            number
+            for number, term in enumerate(self.terms)
+            if term["left"] > 0 and term["uses"] != 0 and kind in term["kinds"]
+        ]
+
+    def day(self, event):
+        """Let a day pass; return the payer, "" for the owner, None without a fault."""
+        payer = None
+        if event != "":
+            payer = self.fault(event)
+        self.age += 1
+        if self.most == 0:
+            self.age = min(self.age, max(self.lives.values()))
+        for term in self.terms:
+            if term["left"] != 0:
+                term["left"] -= 1
+        return payer
+
+    def fault(self, kind):
+        numbers = self.asked(kind)
+        self.age = 0
+        if not numbers:
+            for term in self.terms:
+                if term["sale"]:
+                    self.refill(term)
+            return ""
+        term = self.terms[numbers[0]]
+        if term["uses"] is not None:
+            term["uses"] -= 1
+        if term["renewal"] == "anew":
+            term["left"] = term["days"]
+        return term["payer"]

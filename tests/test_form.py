@@ -1,0 +1,193 @@
+"""The form of the package's files: a part of the rules of ../shared/LANGUAGE.md.
+
+The list of allowed statements and expressions is narrower than the rules: it holds what
+the package uses. Whoever needs more reads the rule first, and adds it then.
+"""
+
+import ast
+import builtins
+import inspect
+import importlib
+import pathlib
+import re
+import unittest
+
+FOLDER = pathlib.Path(__file__).resolve().parent.parent / "coverterms"
+FILES = sorted(FOLDER.glob("*.py"))
+
+# L6, L7
+NODES = """
+Module Expr ImportFrom alias FunctionDef arguments arg ClassDef Assign AugAssign Return If For
+While Raise Break Continue Pass BoolOp And Or BinOp Add Sub Mult FloorDiv Mod UnaryOp Not USub
+IfExp Compare Eq NotEq Lt LtE Gt GtE Is IsNot In NotIn Call Constant Name Load Store Attribute
+Subscript Slice List Tuple Dict ListComp DictComp SetComp comprehension keyword
+""".split()
+# L8, without those that have conditions of their own
+BUILTINS = """
+len range enumerate zip min max sum abs sorted reversed int str bool list tuple dict set
+isinstance ord repr any all divmod ValueError
+""".split()
+# L25, the first list
+METHODS = """
+append clear copy count endswith extend find get index insert isalnum isalpha isdigit islower
+isspace isupper items join keys ljust lower lstrip partition pop remove replace reverse rfind
+rjust rpartition rsplit rstrip setdefault split splitlines startswith strip update upper values
+zfill bit_length
+""".split()
+# L17
+WORDS = """
+register mro elements open input law version_info attrgetter breakpoint builtins compile
+copyright credits delattr dir eval exec exit gc getattr globals hasattr help id importlib
+license locals methodcaller os quit setattr super type vars sys typing enum Generic Protocol
+ABC namedtuple dataclass overload
+""".split()
+INTERFACE = {
+    "parts": {
+        "is_term": "candidate", "is_part": "candidate", "payers": "part",
+        "with_terms": "part terms",
+    },
+    "days": {
+        "new_state": "part", "is_state": "part candidate", "events": "part state",
+        "asked": "part state kind", "next_state": "part state event",
+    },
+    "courses": {
+        "is_course": "part candidate", "state_after": "part course",
+        "payments": "part course", "cost": "part course",
+    },
+}
+
+
+def trees():
+    return [(path, ast.parse(path.read_text())) for path in FILES]
+
+
+def bound(tree):
+    """Return the names of parameters and local variables."""
+    names = [node.arg for node in ast.walk(tree) if isinstance(node, ast.arg)]
+    for function in ast.walk(tree):
+        if isinstance(function, ast.FunctionDef):
+            names += [
+                node.id for node in ast.walk(function)
+                if isinstance(node, ast.Name) and isinstance(node.ctx, ast.Store)
+            ]
+    return names
+
+
+def defined(tree):
+    """Return the names that a file defines at module level, imports left out."""
+    names = []
+    for node in tree.body:
+        if isinstance(node, (ast.FunctionDef, ast.ClassDef)):
+            names.append(node.name)
+        if isinstance(node, ast.Assign):
+            names += [target.id for target in node.targets]
+    return names
+
+
+def imported(tree):
+    return [alias.name for node in tree.body if isinstance(node, ast.ImportFrom)
+            for alias in node.names]
+
+
+class Form(unittest.TestCase):
+    def test_the_folder(self):
+        for path in FOLDER.iterdir():
+            if path.name != "__pycache__":
+                self.assertRegex(path.name, r"^[a-z_][a-z0-9_]*\.py$")
+        self.assertTrue((FOLDER / "__init__.py").is_file())
+
+    def test_sizes_and_characters(self):
+        for path in FILES:
+            text = path.read_bytes().decode("ascii")
+            self.assertIsNone(re.search(r"[^ -~\n]", text), path.name)
+            lines = text.splitlines()
+            self.assertLessEqual(len(lines), 399, path.name)
+            self.assertLessEqual(max(map(len, lines)), 120, path.name)
+        for path, tree in trees():
+            for node in ast.walk(tree):
+                if isinstance(node, ast.FunctionDef):
+                    self.assertLessEqual(node.end_lineno - node.lineno + 1, 40, node.name)
+
+    def test_statements_and_expressions(self):
+        for path, tree in trees():
+            for node in ast.walk(tree):
+                place = f"{path.name}:{getattr(node, 'lineno', 0)}"
+                self.assertIn(node.__class__.__name__, NODES, place)
+                if isinstance(node, ast.FunctionDef):
+                    self.assertEqual(node.decorator_list, [], place)
+                if isinstance(node, ast.Constant):
+                    self.assertNotIsInstance(node.value, (float, complex, bytes), place)
+
+    def test_module_level(self):
+        allowed = (ast.Expr, ast.ImportFrom, ast.FunctionDef, ast.ClassDef, ast.Assign)
+        for path, tree in trees():
+            for node in tree.body:
+                self.assertIsInstance(node, allowed, path.name)
+                if isinstance(node, ast.Expr):
+                    self.assertIsInstance(node.value, ast.Constant, path.name)
+                if isinstance(node, ast.Assign):
+                    ast.literal_eval(node.value)
+
+    def test_imports(self):
+        graph = {}
+        for path, tree in trees():
+            graph[path.stem] = []
+            for node in ast.walk(tree):
+                if isinstance(node, ast.ImportFrom):
+                    self.assertEqual(node.level, 0)
+                    package, name = node.module.split(".")
+                    self.assertEqual(package, "coverterms")
+                    graph[path.stem].append(name)
+                    there = defined(ast.parse((FOLDER / f"{name}.py").read_text()))
+                    for alias in node.names:
+                        self.assertIsNone(alias.asname)
+                        self.assertIn(alias.name, there)
+        while graph:
+            free = [name for name in graph if not set(graph[name]) & set(graph)]
+            self.assertNotEqual(free, [], f"a circle among {sorted(graph)}")
+            graph = {name: graph[name] for name in graph if name not in free}
+
+    def test_names(self):
+        for path, tree in trees():
+            top = defined(tree) + imported(tree)
+            self.assertEqual(len(top), len(set(top)), path.name)
+            locals_here = bound(tree)
+            for name in top + locals_here:
+                self.assertNotIn(name, dir(builtins), path.name)
+                self.assertNotIn(name, WORDS, path.name)
+                self.assertRegex(name, r"^(_|_?[A-Za-z][A-Za-z0-9_]*)$", path.name)
+            for name in locals_here:
+                self.assertNotIn(name, imported(tree), path.name)
+
+    def test_builtins_and_methods(self):
+        for path, tree in trees():
+            known = defined(tree) + imported(tree) + bound(tree) + BUILTINS
+            for node in ast.walk(tree):
+                if isinstance(node, ast.Name) and isinstance(node.ctx, ast.Load):
+                    self.assertIn(node.id, known, path.name)
+                if isinstance(node, ast.Attribute):
+                    self.assertIn(node.attr, METHODS, path.name)
+
+    def test_is_stands_beside_none_true_and_false(self):
+        for path, tree in trees():
+            for node in ast.walk(tree):
+                if isinstance(node, ast.Compare):
+                    for sign, side in zip(node.ops, node.comparators):
+                        if isinstance(sign, (ast.Is, ast.IsNot)):
+                            self.assertIsInstance(side, ast.Constant, path.name)
+
+    def test_no_remainder_sign_in_strings(self):
+        for path, tree in trees():
+            for node in ast.walk(tree):
+                if isinstance(node, ast.Constant) and isinstance(node.value, str):
+                    self.assertNotIn("%", node.value, path.name)
+
+
+class Interface(unittest.TestCase):
+    def test_names_and_arguments(self):
+        for name, functions in INTERFACE.items():
+            module = importlib.import_module(f"coverterms.{name}")
+            for function, parameters in functions.items():
+                found = getattr(module, function)
+                self.assertEqual(found.__module__, module.__name__)
+                self.assertEqual(list(inspect.signature(found).parameters), parameters.split())
