@@ -1,5 +1,7 @@
 """Checks of plain values: numbers, tuples, kinds and payers (0.3, 0.4)."""
 
+from coverterms.errors import InvalidNumber
+
 LETTERS = "abcdefghijklmnopqrstuvwxyz"
 KINDS = ("a", "b", "c")
 LONGEST_PAYER = 6
@@ -11,6 +13,12 @@ def is_number(candidate, least, greatest):
     if isinstance(candidate, bool) or not isinstance(candidate, int):
         return False
     return least <= candidate <= greatest
+
+
+def check_number(candidate, least, greatest):
+    """Raise InvalidNumber if candidate is not an integer from least to greatest."""
+    if not is_number(candidate, least, greatest):
+        raise InvalidNumber("not an integer in its range")
 
 
 def is_tuple(candidate, least, greatest):

@@ -3,7 +3,8 @@
 from coverterms.checks import is_tuple
 from coverterms.errors import InvalidCourse
 from coverterms.parts import check_part
-from coverterms.rules import fresh_state, number_by_order, possible_events, state_by_order
+from coverterms.rules import fresh_state, number_by_order, paid_on_days
+from coverterms.rules import state_after_days, state_by_order
 
 LONGEST_COURSE = 60
 
@@ -13,12 +14,7 @@ def is_course(part, candidate):
     check_part(part)
     if not is_tuple(candidate, 0, LONGEST_COURSE):
         return False
-    state = fresh_state(part)
-    for event in candidate:
-        if event not in possible_events(part, state):
-            return False
-        state = state_by_order(part, state, event)
-    return True
+    return state_after_days(part, fresh_state(part), candidate) is not None
 
 
 def check_course(part, course):
@@ -30,10 +26,7 @@ def check_course(part, course):
 def state_after(part, course):
     """Return the state after the course."""
     check_course(part, course)
-    state = fresh_state(part)
-    for event in course:
-        state = state_by_order(part, state, event)
-    return state
+    return state_after_days(part, fresh_state(part), course)
 
 
 def payments(part, course):
@@ -57,6 +50,5 @@ def payer_by_order(part, state, kind):
 
 def cost(part, course):
     """Return the sum of what the owner pays in the course."""
-    bought = [day for day, kind, payer in payments(part, course) if payer == ""]
-    price, lives, most, terms = part
-    return price * len(bought)
+    check_course(part, course)
+    return paid_on_days(part, fresh_state(part), course)

@@ -109,3 +109,36 @@ def state_by_order(part, state, event):
         age, rows = state
         return state_at_end_of_day(part, age, rows)
     return state_after_fault(part, state, number_by_order(part, state, event))
+
+
+def paid_by_order(part, state, event):
+    """Return what the owner pays on a day with an event, by the order."""
+    price, lives, most, terms = part
+    left = event != "" and number_by_order(part, state, event) is None
+    return price if left else 0
+
+
+def moves_by_order(part, state):
+    """Return the (event, paid, state after the day) of all days that can come, ascending."""
+    return [
+        (event, paid_by_order(part, state, event), state_by_order(part, state, event))
+        for event in possible_events(part, state)
+    ]
+
+
+def state_after_days(part, state, course):
+    """Return the state after events one after the other, None if one is not possible."""
+    for event in course:
+        if event not in possible_events(part, state):
+            return None
+        state = state_by_order(part, state, event)
+    return state
+
+
+def paid_on_days(part, state, course):
+    """Return what the owner pays for possible events one after the other."""
+    paid = 0
+    for event in course:
+        paid += paid_by_order(part, state, event)
+        state = state_by_order(part, state, event)
+    return paid

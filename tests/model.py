@@ -28,6 +28,13 @@ class Model:
             ),
         )
 
+    def put(self, state):
+        """Go on from a state."""
+        self.age, rows = state
+        for term, (left, claims) in zip(self.terms, rows):
+            term["left"] = left
+            term["uses"] = None if claims == -1 else claims
+
     def events(self):
         found = []
         if self.most == 0 or self.age < self.most:

@@ -23,6 +23,51 @@ WIDE = (
 )
 NARROW = (1, (("c", 0),), 0, ())
 
+# Parts with exactly 400 states, with 401, and with many more.
+FULL = (
+    10,
+    (("a", 0), ("b", 5), ("c", 1)),
+    5,
+    (
+        ("xx", 4, "bc", "anew", 2, False),
+        ("yyyyy", 5, "ac", "anew", 2, False),
+        ("zz", 5, "a", "anew", 2, True),
+    ),
+)
+OVER = (
+    3,
+    (("b", 1), ("c", 0)),
+    4,
+    (
+        ("xxxxxx", 2, "c", "rest", 2, False),
+        ("yy", 5, "c", "anew", 2, False),
+        ("z", 5, "ab", "anew", 1, False),
+    ),
+)
+HUGE = (
+    20,
+    (("a", 0), ("b", 0), ("c", 1)),
+    7,
+    (
+        ("x", 6, "a", "rest", 2, True),
+        ("yyyyy", 6, "ac", "anew", 1, True),
+        ("zzzzzz", 5, "bc", "anew", 2, False),
+    ),
+)
+# A part with states that take 33 days to reach.
+LONG = (
+    1,
+    (("a", 5), ("b", 5), ("c", 6)),
+    8,
+    (
+        ("z", 6, "ab", "anew", 2, False),
+        ("y", 6, "bc", "anew", 2, True),
+        ("x", 4, "ac", "anew", 0, True),
+    ),
+)
+# A part of which the payer pays all faults, for ever.
+KEPT = (7, (("a", 0), ("b", 3)), 4, (("maker", 5, "ab", "anew", 0, False),))
+
 DEEP = ((((((),),),),),)
 DEEP_LIST = [[[[[[]]]]]]
 
@@ -58,6 +103,25 @@ def random_part(source):
     least = min(least for kind, least in lives)
     most = source.choice([0] + list(range(max(1, least), 9)))
     return (source.randint(1, 20), lives, most, random_terms(source, source.randint(0, 3)))
+
+
+def small_part(source):
+    """Return some part with short days and lives, so that little happens late."""
+    kinds = sorted(source.sample("abc", source.randint(1, 2)))
+    lives = tuple((kind, source.randint(0, 2)) for kind in kinds)
+    least = min(least for kind, least in lives)
+    most = source.choice([0] + list(range(max(1, least), 5)))
+    terms = tuple(
+        term[:1] + (source.randint(1, 3),) + term[2:]
+        for term in random_terms(source, source.randint(0, 3))
+    )
+    return (source.randint(1, 20), lives, most, terms)
+
+
+def small_parts(seed, many):
+    """Return so many small parts, the same ones for the same seed."""
+    source = random.Random(seed)
+    return [small_part(source) for _ in range(many)]
 
 
 def random_parts(seed, many):

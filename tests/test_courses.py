@@ -8,15 +8,8 @@ import unittest
 from coverterms.courses import cost, is_course, payments, state_after
 from coverterms.errors import InvalidCourse, InvalidPart
 from tests.model import Model
-from tests.samples import BARE, DEEP, DEEP_LIST, NARROW, ODD, PUMP, WIDE, random_parts
-
-BAD_PARTS = ODD + [list(PUMP), PUMP[:3], (True,) + PUMP[1:], PUMP[:3] + ([],), BARE + ((),)]
-BAD_COURSES = [value for value in ODD if value != ()] + [
-    ["", "b"], ("a",), ("c",), ("", "c"), ("", "", "", ""), ("b", "a", "b", "c"),
-    ("bb",), ("ab",), ("", "ab"), ("", "d"), ("", None), ("", 0), ("", False), ("", True),
-    ("", ()), ("", []), ("", ("a",)), ("", ["a"]), (("", "a"),), ([],), "b", "", (DEEP,),
-    (DEEP_LIST,), ("", "A"), (".",), ("b", "b", None), (None,), ("", 1),
-]
+from tests.samples import BARE, NARROW, PUMP, WIDE, random_parts
+from tests.wrong import BAD_COURSES, BAD_PARTS, at, check_errors
 
 
 class IsCourse(unittest.TestCase):
@@ -192,15 +185,7 @@ class Definitions(unittest.TestCase):
 
 def check_exceptions(case, function):
     """Check InvalidPart, InvalidCourse, and that the first is raised if both apply."""
-    for part in BAD_PARTS:
-        for course in [(), ("b",), ("c",), None, ("",) * 61]:
-            with case.subTest(repr(part)[:80]), case.assertRaises(InvalidPart):
-                function(part, course)
-    for course in BAD_COURSES:
-        with case.subTest(repr(course)[:80]), case.assertRaises(InvalidCourse):
-            function(PUMP, course)
-    function(PUMP, ("b",) * 60)
-    with case.assertRaises(InvalidCourse):
-        function(PUMP, ("b",) * 61)
+    check_errors(case, function, (PUMP, ("b",) * 60), [
+        (InvalidPart, at(0, BAD_PARTS)), (InvalidCourse, at(1, BAD_COURSES))])
     with case.assertRaises(InvalidCourse):
         function(BARE, ("", "", "", ""))

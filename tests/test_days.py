@@ -7,23 +7,10 @@ import unittest
 from coverterms.days import asked, events, is_state, new_state, next_state
 from coverterms.errors import InvalidEvent, InvalidKind, InvalidPart, InvalidState
 from tests.model import Model
-from tests.samples import BARE, DEEP, DEEP_LIST, NARROW, ODD, PUMP, WIDE, random_parts
+from tests.samples import BARE, NARROW, PUMP, WIDE, random_parts
+from tests.wrong import BAD_KINDS, BAD_PARTS, BAD_STATES, at, check_errors
 
 NEW = (0, ((2, -1), (3, 1)))
-BAD_PARTS = ODD + [list(PUMP), PUMP[:3], (True,) + PUMP[1:], PUMP[:3] + ([],), BARE + ((),)]
-BAD_STATES = ODD + [
-    [0, ((2, -1), (3, 1))], (0, [(2, -1), (3, 1)]), (0, ([2, -1], (3, 1))), (0,), (0, ()),
-    (0, ((2, -1), (3, 1)), 0), (0, ((2, -1),)), (0, ((2, -1), (3, 1), (0, 0))),
-    (0, ((2,), (3, 1))), (0, ((2, -1, 0), (3, 1))), (0, ((2, -1), (3,))), (0, (2, -1, 3, 1)),
-    (True, ((2, -1), (3, 1))), (False, ((2, -1), (3, 1))), (None, ((2, -1), (3, 1))),
-    ("0", ((2, -1), (3, 1))), (0, ((True, -1), (3, 1))), (0, ((False, -1), (3, 1))),
-    (0, ((2, -1), (3, True))), (0, ((2, -1), (3, False))), (0, ((2, None), (3, 1))),
-    (0, ((2, -1), ("3", 1))), (0, None), (0, "ab"), (0, (None, None)), (0, DEEP), (0, DEEP_LIST),
-    (DEEP, DEEP), (((2, -1), (3, 1)), 0), (-1, ((2, -1), (3, 1))), (4, ((2, -1), (3, 1))),
-    (10 ** 30, ((2, -1), (3, 1))), (0, ((3, -1), (3, 1))), (0, ((-1, -1), (3, 1))),
-    (0, ((2, 0), (3, 1))), (0, ((2, 1), (3, 1))), (0, ((2, -2), (3, 1))), (0, ((2, -1), (4, 1))),
-    (0, ((2, -1), (3, 2))), (0, ((2, -1), (3, -1))), (0, ((3, 1), (2, -1))), (0, ("ab", "cd")),
-]
 
 
 def one_term(term, most=0, lives=(("a", 0), ("b", 2))):
@@ -136,13 +123,8 @@ class Events(unittest.TestCase):
         self.assertEqual(events(PUMP, NEW), ["", "b"])
 
     def test_exceptions_in_order(self):
-        for part in BAD_PARTS:
-            for state in [NEW, (0, ()), None]:
-                with self.subTest(repr(part)[:80]), self.assertRaises(InvalidPart):
-                    events(part, state)
-        for state in BAD_STATES:
-            with self.subTest(repr(state)[:80]), self.assertRaises(InvalidState):
-                events(PUMP, state)
+        check_errors(self, events, (PUMP, NEW), [
+            (InvalidPart, at(0, BAD_PARTS)), (InvalidState, at(1, BAD_STATES))])
 
 
 class Asked(unittest.TestCase):
@@ -178,21 +160,10 @@ class Asked(unittest.TestCase):
         asked(PUMP, NEW, "a").append(7)
         self.assertEqual(asked(PUMP, NEW, "a"), [0, 1])
 
-    def test_wrong_kinds(self):
-        for kind in ["", "ab", "bc", "abc", "d", "A", "a ", None, True, False, 0, 1, (), [],
-                     ("a",), ["a"], DEEP, DEEP_LIST]:
-            with self.subTest(repr(kind)), self.assertRaises(InvalidKind):
-                asked(PUMP, NEW, kind)
-
     def test_exceptions_in_order(self):
-        for part in BAD_PARTS:
-            for state, kind in [(NEW, "a"), (None, "a"), (NEW, "d"), (None, None)]:
-                with self.subTest(repr(part)[:80]), self.assertRaises(InvalidPart):
-                    asked(part, state, kind)
-        for state in BAD_STATES:
-            for kind in ["a", "d", None, []]:
-                with self.subTest(repr(state)[:80]), self.assertRaises(InvalidState):
-                    asked(PUMP, state, kind)
+        check_errors(self, asked, (PUMP, NEW, "a"), [
+            (InvalidPart, at(0, BAD_PARTS)), (InvalidState, at(1, BAD_STATES)),
+            (InvalidKind, at(2, BAD_KINDS))])
 
 
 class NextState(unittest.TestCase):
@@ -271,21 +242,11 @@ class NextState(unittest.TestCase):
             with self.subTest((state, event)), self.assertRaises(InvalidEvent):
                 next_state(part, state, event)
 
-    def test_wrong_events(self):
-        for event in ["ab", "abc", "d", "B", "b ", ".", None, True, False, 0, 1, (), [], ("b",),
-                      ["b"], [""], ("",), DEEP, DEEP_LIST]:
-            with self.subTest(repr(event)), self.assertRaises(InvalidEvent):
-                next_state(PUMP, NEW, event)
-
     def test_exceptions_in_order(self):
-        for part in BAD_PARTS:
-            for state, event in [(NEW, ""), (None, ""), (NEW, "c"), (None, None)]:
-                with self.subTest(repr(part)[:80]), self.assertRaises(InvalidPart):
-                    next_state(part, state, event)
-        for state in BAD_STATES:
-            for event in ["", "a", "c", None, []]:
-                with self.subTest(repr(state)[:80]), self.assertRaises(InvalidState):
-                    next_state(PUMP, state, event)
+        wrong = [event for event in BAD_KINDS if event != ""] + ["a", "c", "b ", ("",), [""]]
+        check_errors(self, next_state, (PUMP, NEW, ""), [
+            (InvalidPart, at(0, BAD_PARTS)), (InvalidState, at(1, BAD_STATES)),
+            (InvalidEvent, at(2, wrong))])
 
 
 class AgainstTheModel(unittest.TestCase):

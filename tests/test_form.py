@@ -20,7 +20,7 @@ NODES = """
 Module Expr ImportFrom alias FunctionDef arguments arg ClassDef Assign AugAssign Return If For
 While Raise Break Continue Pass BoolOp And Or BinOp Add Sub Mult FloorDiv Mod UnaryOp Not USub
 IfExp Compare Eq NotEq Lt LtE Gt GtE Is IsNot In NotIn Call Constant Name Load Store Attribute
-Subscript Slice List Tuple Dict ListComp DictComp SetComp comprehension keyword
+Subscript Slice List Tuple Dict ListComp DictComp SetComp comprehension keyword Lambda
 """.split()
 # L8, without those that have conditions of their own
 BUILTINS = """
@@ -53,6 +53,22 @@ INTERFACE = {
     "courses": {
         "is_course": "part candidate", "state_after": "part course",
         "payments": "part course", "cost": "part course",
+    },
+    "reaching": {
+        "all_states": "part", "course_to": "part state", "never_asked": "part",
+        "sole_payer": "part kind",
+    },
+    "gaps": {
+        "can_be_left": "part kind", "leaving_course": "part kind",
+        "is_safe_set": "part kind candidate", "safe_set": "part kind",
+    },
+    "keeping": {
+        "longest_free": "part", "surely_free": "part", "is_round": "part candidate",
+        "is_free_round": "part candidate", "free_round": "part",
+    },
+    "extremes": {
+        "greatest_cost": "part many", "least_cost": "part many",
+        "costliest_course": "part many", "cheapest_course": "part many",
     },
 }
 
