@@ -21,7 +21,8 @@ def explored(beginning, moves_of, limit):
     moves = []
     while len(moves) < len(nodes):
         numbered = []
-        for event, paid, node in moves_of(nodes[len(moves)]):
+        found = moves_of(nodes[len(moves)])
+        for event, paid, node in found:
             if node not in numbers:
                 numbers[node] = len(nodes)
                 nodes.append(node)

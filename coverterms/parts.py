@@ -88,3 +88,9 @@ def with_terms(part, terms):
     if not is_part(changed):
         raise InvalidTerms("no part has these terms")
     return changed
+
+
+def with_term(part, number, changed):
+    """Return the part with a tuple of terms in place of the term with the number."""
+    price, lives, most, terms = part
+    return (price, lives, most, terms[:number] + changed + terms[number + 1:])

@@ -56,23 +56,31 @@ class Model:
         payer = None
         if event != "":
             payer = self.fault(event)
+        self.end()
+        return payer
+
+    def end(self):
+        """End the day."""
         self.age += 1
         if self.most == 0:
             self.age = min(self.age, max(self.lives.values()))
         for term in self.terms:
             if term["left"] != 0:
                 term["left"] -= 1
-        return payer
 
     def fault(self, kind):
         numbers = self.asked(kind)
+        return self.pay(numbers[0]) if numbers else self.pay(None)
+
+    def pay(self, number):
+        """Exchange the part; the payer of the term with the number pays, or the owner."""
         self.age = 0
-        if not numbers:
+        if number is None:
             for term in self.terms:
                 if term["sale"]:
                     self.refill(term)
             return ""
-        term = self.terms[numbers[0]]
+        term = self.terms[number]
         if term["uses"] is not None:
             term["uses"] -= 1
         if term["renewal"] == "anew":

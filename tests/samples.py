@@ -54,6 +54,52 @@ HUGE = (
         ("zzzzzz", 5, "bc", "anew", 2, False),
     ),
 )
+# Parts with exactly 400 and with 401 states that can be reached by choosing.
+CHOOSE = (
+    15,
+    (("a", 1), ("c", 1)),
+    6,
+    (
+        ("x", 5, "a", "anew", 2, True),
+        ("y", 5, "abc", "anew", 2, True),
+        ("z", 3, "ab", "anew", 2, True),
+    ),
+)
+CHOOSE_OVER = (
+    14,
+    (("a", 0), ("b", 1)),
+    3,
+    (
+        ("x", 6, "ab", "rest", 1, True),
+        ("y", 3, "ac", "anew", 1, True),
+        ("z", 6, "bc", "anew", 2, False),
+    ),
+)
+# Pairs of parts with exactly 2000 and with 2001 pairs of states.
+PAIR = (
+    (20, (("b", 1), ("c", 1)), 5, (
+        ("x", 6, "bc", "anew", 2, False), ("y", 6, "c", "rest", 0, True))),
+    (15, (("b", 1), ("c", 1)), 5, (
+        ("x", 6, "c", "anew", 2, False), ("y", 5, "b", "rest", 2, True),
+        ("z", 6, "abc", "anew", 1, False))),
+)
+PAIR_OVER = (
+    (9, (("a", 1), ("c", 1)), 6, (
+        ("x", 6, "bc", "rest", 2, False), ("y", 5, "abc", "anew", 2, False))),
+    (12, (("a", 1), ("c", 1)), 6, (
+        ("x", 4, "c", "rest", 2, True), ("y", 4, "a", "anew", 1, True),
+        ("z", 6, "c", "anew", 2, True))),
+)
+# Pairs of parts that part after 60, 61 and 62 days.
+PARTING = [
+    ((19, (("a", 1),), 3, (
+        ("x", 3, "abc", "anew", 2, True), ("y", 5, "ac", "anew", 2, False))),
+     (18, (("a", 1),), 3, ())),
+    ((14, (("a", 4),), 4, (("x", 6, "ab", "rest", 0, False),)),
+     (13, (("a", 4),), 4, (("x", 1, "ab", "rest", 1, False),))),
+    ((20, (("a", 1),), 1, (("x", 4, "abc", "rest", 0, False),)),
+     (19, (("a", 1),), 1, ())),
+]
 # A part with states that take 33 days to reach.
 LONG = (
     1,

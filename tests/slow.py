@@ -67,3 +67,112 @@ def all_rows(part):
         rows = [row + ((left, use),) for row in rows for left in range(days + 1) for use in uses]
     ages = most if most else max(least for kind, least in lives)
     return [(age, row) for age in range(ages + 1) for row in rows]
+
+
+def choices_from(part, state):
+    """Return for each event that can follow the list of (number, cost, state after the day).
+
+    The number is that of the term that pays, None for the owner, who comes last.
+    """
+    found = {}
+    model = Model(part)
+    model.put(state)
+    for event in model.events():
+        model.put(state)
+        numbers = model.asked(event) + [None]
+        found[event] = []
+        for number in numbers if event != "" else []:
+            model.put(state)
+            model.pay(number)
+            model.end()
+            found[event].append((number, part[0] if number is None else 0, model.state()))
+        if event == "":
+            model.day("")
+            found[""].append((None, 0, model.state()))
+    return found
+
+
+def choice_closure(part, state):
+    """Return the set of all states that can be reached from a state by choosing."""
+    known = {state}
+    waiting = [state]
+    while waiting:
+        for options in choices_from(part, waiting.pop()).values():
+            for number, cost, after in options:
+                if after not in known:
+                    known.add(after)
+                    waiting.append(after)
+    return known
+
+
+def sure(part, state, many, known):
+    """Return the sure cost of so many days in a state; known keeps what was found before."""
+    if many == 0:
+        return 0
+    if (state, many) not in known:
+        known[state, many] = max(
+            min(cost + sure(part, after, many - 1, known) for number, cost, after in options)
+            for options in choices_from(part, state).values()
+        )
+    return known[state, many]
+
+
+def common_days(one, other, many):
+    """Yield for 0 to so many days a dict from (state, state, difference) to the first course.
+
+    The difference is by how much the courses that lead there cost more with one.
+    """
+    level = {(beginning(one), beginning(other), 0): ()}
+    after_one, after_other = {}, {}
+    for day in range(many + 1):
+        yield level
+        following = {}
+        for (first, second, difference), course in level.items():
+            if first not in after_one:
+                after_one[first] = days_from(one, first)
+            if second not in after_other:
+                after_other[second] = days_from(other, second)
+            for (event, payer, left), (same, payer_two, right) in zip(
+                after_one[first], after_other[second]
+            ):
+                assert event == same
+                change = (one[0] if payer == "" else 0) - (other[0] if payer_two == "" else 0)
+                place = (left, right, difference + change)
+                longer = course + (event,)
+                if place not in following or longer < following[place]:
+                    following[place] = longer
+        level = following
+
+
+def pair_moves(one, other):
+    """Return a dict from each pair of states to the list of (difference, pair) that follow."""
+    table = {}
+    waiting = [(beginning(one), beginning(other))]
+    while waiting:
+        pair = waiting.pop()
+        if pair in table:
+            continue
+        table[pair] = [
+            ((one[0] if payer == "" else 0) - (other[0] if payer_two == "" else 0), (left, right))
+            for (event, payer, left), (same, payer_two, right) in zip(
+                days_from(one, pair[0]), days_from(other, pair[1])
+            )
+        ]
+        waiting += [after for change, after in table[pair]]
+    return table
+
+
+def greatest_gain(one, other):
+    """Return the greatest difference of a course, None if there is none, day by day."""
+    table = pair_moves(one, other)
+    best = {(beginning(one), beginning(other)): 0}
+    for day in range(len(table) + 1):
+        better = dict(best)
+        for pair, gain in best.items():
+            for change, after in table[pair]:
+                if gain + change > better.get(after, -(10 ** 9)):
+                    better[after] = gain + change
+        if better == best:
+            return max(best.values())
+        best = better
+    return None

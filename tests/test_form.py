@@ -27,6 +27,8 @@ BUILTINS = """
 len range enumerate zip min max sum abs sorted reversed int str bool list tuple dict set
 isinstance ord repr any all divmod ValueError
 """.split()
+# L2 The library, as far as it is used: called by its bare name, in functions
+LIBRARY = {"math": ["gcd"]}
 # L25, the first list
 METHODS = """
 append clear copy count endswith extend find get index insert isalnum isalpha isdigit islower
@@ -69,6 +71,20 @@ INTERFACE = {
     "extremes": {
         "greatest_cost": "part many", "least_cost": "part many",
         "costliest_course": "part many", "cheapest_course": "part many",
+    },
+    "means": {
+        "mean_of": "part candidate", "greatest_mean": "part", "least_mean": "part",
+    },
+    "comparing": {
+        "never_dearer": "one other", "parting_course": "one other", "as_dear": "one other",
+        "greatest_difference": "one other", "idle_terms": "part", "idle_kinds": "part",
+    },
+    "choosing": {
+        "sure_cost": "part many", "price_of_order": "part many",
+        "best_choice": "part state kind many", "wrong_firsts": "part many",
+    },
+    "mending": {
+        "least_days": "part number kind", "fewest_added": "part kind offers",
     },
 }
 
@@ -149,7 +165,11 @@ class Form(unittest.TestCase):
         for path, tree in trees():
             graph[path.stem] = []
             for node in ast.walk(tree):
-                if isinstance(node, ast.ImportFrom):
+                if isinstance(node, ast.ImportFrom) and node.module in LIBRARY:
+                    for alias in node.names:
+                        self.assertIn(alias.name, LIBRARY[node.module])
+                        self.assertIsNone(alias.asname)
+                elif isinstance(node, ast.ImportFrom):
                     self.assertEqual(node.level, 0)
                     package, name = node.module.split(".")
                     self.assertEqual(package, "coverterms")
