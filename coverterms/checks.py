@@ -4,7 +4,7 @@ from coverterms.errors import InvalidNumber
 
 LETTERS = "abcdefghijklmnopqrstuvwxyz"
 KINDS = ("a", "b", "c")
-LONGEST_PAYER = 6
+LONGEST_WORD = 6
 
 
 def is_number(candidate, least, greatest):
@@ -38,8 +38,8 @@ def is_kinds(candidate):
     return candidate == "".join([kind for kind in KINDS if kind in candidate])
 
 
-def is_payer(candidate):
-    """Return whether candidate is a string of 1 to 6 letters a to z."""
-    if not isinstance(candidate, str) or not 1 <= len(candidate) <= LONGEST_PAYER:
+def is_word(candidate):
+    """Return whether candidate is a string of 1 to 6 letters a to z, as payers and names are."""
+    if not isinstance(candidate, str) or not 1 <= len(candidate) <= LONGEST_WORD:
         return False
     return all([letter in LETTERS for letter in candidate])

@@ -1,6 +1,6 @@
 """Parts and their terms (1.1, 1.2)."""
 
-from coverterms.checks import is_kind, is_kinds, is_number, is_payer, is_tuple
+from coverterms.checks import is_kind, is_kinds, is_number, is_tuple, is_word
 from coverterms.errors import InvalidPart, InvalidTerms
 
 RENEWALS = ("anew", "rest")
@@ -12,7 +12,7 @@ def is_term(candidate):
         return False
     payer, days, kinds, renewal, claims, sale = candidate
     return (
-        is_payer(payer)
+        is_word(payer)
         and is_number(days, 1, 6)
         and is_kinds(kinds)
         and renewal in RENEWALS

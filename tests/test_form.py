@@ -21,6 +21,7 @@ Module Expr ImportFrom alias FunctionDef arguments arg ClassDef Assign AugAssign
 While Raise Break Continue Pass BoolOp And Or BinOp Add Sub Mult FloorDiv Mod UnaryOp Not USub
 IfExp Compare Eq NotEq Lt LtE Gt GtE Is IsNot In NotIn Call Constant Name Load Store Attribute
 Subscript Slice List Tuple Dict ListComp DictComp SetComp comprehension keyword Lambda
+JoinedStr FormattedValue
 """.split()
 # L8, without those that have conditions of their own
 BUILTINS = """
@@ -28,7 +29,7 @@ len range enumerate zip min max sum abs sorted reversed int str bool list tuple 
 isinstance ord repr any all divmod ValueError
 """.split()
 # L2 The library, as far as it is used: called by its bare name, in functions
-LIBRARY = {"math": ["gcd"]}
+LIBRARY = {"math": ["gcd", "lcm"]}
 # L25, the first list
 METHODS = """
 append clear copy count endswith extend find get index insert isalnum isalpha isdigit islower
@@ -85,6 +86,23 @@ INTERFACE = {
     },
     "mending": {
         "least_days": "part number kind", "fewest_added": "part kind offers",
+    },
+    "formats": {
+        "format_part": "part", "parse_part": "text", "format_course": "part course",
+        "parse_course": "part text",
+    },
+    "naive": {
+        "all_courses": "part many", "naive_parting": "one other many", "naive_sure": "part many",
+    },
+    "chances": {
+        "is_weights": "part candidate", "chance_of": "part weights course",
+        "chance_free": "part weights many", "mean_cost": "part weights many",
+        "chance_left": "part weights kind many", "cheaper_on_average": "one other weights many",
+    },
+    "stocks": {
+        "greatest_with": "part many faults", "fewest_faults": "part many",
+        "faults_for": "part many cost", "are_goods": "candidate",
+        "greatest_of_all": "goods many faults", "worst_shares": "goods many faults",
     },
 }
 
@@ -149,6 +167,9 @@ class Form(unittest.TestCase):
                     self.assertEqual(node.decorator_list, [], place)
                 if isinstance(node, ast.Constant):
                     self.assertNotIsInstance(node.value, (float, complex, bytes), place)
+                if isinstance(node, ast.FormattedValue):
+                    self.assertIsInstance(node.value, ast.Name, place)
+                    self.assertEqual((node.conversion, node.format_spec), (-1, None), place)
 
     def test_module_level(self):
         allowed = (ast.Expr, ast.ImportFrom, ast.FunctionDef, ast.ClassDef, ast.Assign)
