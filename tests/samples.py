@@ -114,6 +114,13 @@ LONG = (
 # A part of which the payer pays all faults, for ever.
 KEPT = (7, (("a", 0), ("b", 3)), 4, (("maker", 5, "ab", "anew", 0, False),))
 
+# Parts that can not be compared with PUMP.
+OTHERS = [
+    NARROW, KEPT, (5, (("a", 1),), 3, ()), (5, (("a", 1), ("b", 0)), 2, ()),
+    (5, (("a", 1), ("b", 0)), 0, ()), (5, (("a", 1), ("b", 1)), 3, PUMP[3]),
+    (5, (("a", 1), ("c", 0)), 3, ()), (5, (("a", 1), ("b", 0), ("c", 6)), 3, ()),
+]
+
 DEEP = ((((((),),),),),)
 DEEP_LIST = [[[[[[]]]]]]
 
@@ -174,3 +181,17 @@ def random_parts(seed, many):
     """Return so many parts, the same ones for the same seed."""
     source = random.Random(seed)
     return [random_part(source) for _ in range(many)]
+
+
+def pairs_of(seed, many):
+    """Return pairs of small parts with the same lives and most."""
+    source = random.Random(seed)
+    found = []
+    for part in small_parts(seed, many):
+        terms = tuple(
+            term[:1] + (source.randint(1, 3),) + term[2:]
+            for term in random_terms(source, source.randint(0, 3))
+        )
+        price = source.choice([part[0], source.randint(1, 20)])
+        found.append((part, (price,) + part[1:3] + (terms,)))
+    return found

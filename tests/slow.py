@@ -31,6 +31,16 @@ def closure(part):
     return known
 
 
+def model_allows(part, course):
+    """Return whether the events of a course are possible one after the other."""
+    model = Model(part)
+    for event in course:
+        if event not in model.events():
+            return False
+        model.day(event)
+    return True
+
+
 def walks(part, many):
     """Return for 0 to so many days the ascending lists of (course, cost, state, payers)."""
     levels = [[((), 0, beginning(part), ())]]

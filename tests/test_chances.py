@@ -10,10 +10,9 @@ from coverterms.errors import InvalidCourse, InvalidKind, InvalidNumber, Invalid
 from coverterms.errors import InvalidWeights, OtherLives, TooLarge
 from coverterms.keeping import surely_free
 from tests.model import Model
-from tests.samples import BARE, DEEP, DEEP_LIST, FULL, HUGE, KEPT, NARROW, ODD, OVER, PUMP, WIDE
-from tests.samples import random_parts, small_parts
+from tests.samples import BARE, DEEP, DEEP_LIST, FULL, HUGE, KEPT, NARROW, ODD, OTHERS, OVER
+from tests.samples import PUMP, WIDE, pairs_of, random_parts, small_parts
 from tests.slow import beginning, closure, days_from, walks
-from tests.test_comparing import OTHERS, pairs_of
 from tests.test_means import pair
 from tests.wrong import BAD_COURSES, BAD_KINDS, BAD_PARTS, at, bad_numbers, check_error
 from tests.wrong import check_errors

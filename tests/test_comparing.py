@@ -7,34 +7,15 @@ from coverterms.comparing import as_dear, greatest_difference, has_circle, idle_
 from coverterms.comparing import most_gained, never_dearer, parting_course
 from coverterms.courses import cost
 from coverterms.errors import InvalidPart, OtherLives, TooLarge, TooLong
-from tests.samples import BARE, HUGE, KEPT, NARROW, PAIR, PAIR_OVER, PARTING, PUMP
-from tests.samples import random_parts, random_terms, small_parts
+from tests.samples import BARE, HUGE, KEPT, NARROW, OTHERS, PAIR, PAIR_OVER, PARTING, PUMP
+from tests.samples import pairs_of, random_parts, random_terms, small_parts
 from tests.slow import beginning, common_days, follow, greatest_gain, pair_moves, walks
 from tests.wrong import BAD_PARTS, at, check_error, check_errors
 
 COMPARING = (never_dearer, parting_course, as_dear, greatest_difference)
 CHEAP = (1,) + PUMP[1:]
-OTHERS = [
-    NARROW, KEPT, (5, (("a", 1),), 3, ()), (5, (("a", 1), ("b", 0)), 2, ()),
-    (5, (("a", 1), ("b", 0)), 0, ()), (5, (("a", 1), ("b", 1)), 3, PUMP[3]),
-    (5, (("a", 1), ("c", 0)), 3, ()), (5, (("a", 1), ("b", 0), ("c", 6)), 3, ()),
-]
 # A part of which the second payer is never asked.
 IDLE = (5, (("a", 0), ("b", 3)), 4, KEPT[3] + (("last", 6, "ab", "rest", 2, True),))
-
-
-def pairs_of(seed, many):
-    """Return pairs of small parts with the same lives and most."""
-    source = random.Random(seed)
-    found = []
-    for part in small_parts(seed, many):
-        terms = tuple(
-            term[:1] + (source.randint(1, 3),) + term[2:]
-            for term in random_terms(source, source.randint(0, 3))
-        )
-        price = source.choice([part[0], source.randint(1, 20)])
-        found.append((part, (price,) + part[1:3] + (terms,)))
-    return found
 
 
 def first_parting(one, other, many):

@@ -9,6 +9,7 @@ from coverterms.courses import cost, is_course, payments, state_after
 from coverterms.errors import InvalidCourse, InvalidPart
 from tests.model import Model
 from tests.samples import BARE, NARROW, PUMP, WIDE, random_parts
+from tests.slow import model_allows
 from tests.wrong import BAD_COURSES, BAD_PARTS, at, check_errors
 
 
@@ -68,15 +69,6 @@ class IsCourse(unittest.TestCase):
             for candidate in [(), ("b",), None]:
                 with self.subTest(repr(part)[:80]), self.assertRaises(InvalidPart):
                     is_course(part, candidate)
-
-
-def model_allows(part, course):
-    model = Model(part)
-    for event in course:
-        if event not in model.events():
-            return False
-        model.day(event)
-    return True
 
 
 class StateAfter(unittest.TestCase):

@@ -11,25 +11,14 @@ from coverterms.courses import is_course
 from coverterms.errors import InvalidNumber, InvalidPart, OtherLives, TooLarge
 from coverterms.naive import all_courses, naive_parting, naive_sure
 from tests.model import Model
-from tests.samples import BARE, CHOOSE_OVER, FULL, HUGE, KEPT, NARROW, OVER, PARTING, PUMP, WIDE
-from tests.samples import random_parts, small_parts
-from tests.slow import walks
-from tests.test_comparing import OTHERS, pairs_of
+from tests.samples import BARE, CHOOSE_OVER, FULL, HUGE, KEPT, NARROW, OTHERS, OVER, PARTING
+from tests.samples import PUMP, WIDE, pairs_of, random_parts, small_parts
+from tests.slow import model_allows, walks
 from tests.wrong import BAD_PARTS, at, bad_numbers, check_error, check_errors
 
 # No part has just 3000 courses; these come nearest, with six days.
 MANY = (7, (("a", 0), ("b", 0), ("c", 1)), 3, (("x", 2, "ab", "anew", 1, True),))
 TOO_MANY = (7, (("a", 0), ("b", 0), ("c", 1)), 4, (("x", 2, "ab", "anew", 1, True),))
-
-
-def possible(part, course):
-    """Return whether the events of a course are possible one after the other."""
-    model = Model(part)
-    for event in course:
-        if event not in model.events():
-            return False
-        model.day(event)
-    return True
 
 
 def least_sure(model, many):
@@ -72,7 +61,7 @@ class AllCourses(unittest.TestCase):
                 self.assertEqual(found, sorted(course for course, *_ in walks(part, many)[many]))
                 self.assertEqual(found, [
                     course for course in itertools.product(["", "a", "b", "c"], repeat=many)
-                    if possible(part, course)])
+                    if model_allows(part, course)])
 
     def test_they_do_not_depend_on_the_terms(self):
         for part in small_parts(113, 40):
