@@ -7,7 +7,7 @@ from coverterms.extremes import greatest_cost
 from coverterms.graphs import MOST_STATES, explored, graph_by_order
 from coverterms.parts import check_part
 from coverterms.rules import askable, fresh_state, possible_events, state_after_fault
-from coverterms.rules import state_by_order
+from coverterms.rules import state_after_quiet
 
 MOST_DAYS = 20
 
@@ -21,7 +21,7 @@ def moves_by_choice(part, state):
     moves = []
     for event in possible_events(part, state):
         if event == "":
-            moves.append((("", None), 0, state_by_order(part, state, "")))
+            moves.append((("", None), 0, state_after_quiet(part, state)))
         else:
             for number in askable(part, state, event):
                 moves.append(((event, number), 0, state_after_fault(part, state, number)))

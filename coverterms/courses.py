@@ -3,7 +3,7 @@
 from coverterms.checks import is_tuple
 from coverterms.errors import InvalidCourse
 from coverterms.parts import check_part
-from coverterms.rules import fresh_state, number_by_order, paid_on_days
+from coverterms.rules import fresh_state, paid_on_days, payer_by_order
 from coverterms.rules import state_after_days, state_by_order
 
 LONGEST_COURSE = 60
@@ -29,23 +29,24 @@ def state_after(part, course):
     return state_after_days(part, fresh_state(part), course)
 
 
+def entries_by_order(part, course):
+    """Return the list of the (event, payer) of the days of the course."""
+    entries = []
+    state = fresh_state(part)
+    for event in course:
+        entries.append((event, payer_by_order(part, state, event)))
+        state = state_by_order(part, state, event)
+    return entries
+
+
 def payments(part, course):
     """Return the list of the (day, kind, payer) of the faults of the course."""
     check_course(part, course)
-    paid = []
-    state = fresh_state(part)
-    for day, event in enumerate(course):
-        if event != "":
-            paid.append((day, event, payer_by_order(part, state, event)))
-        state = state_by_order(part, state, event)
-    return paid
-
-
-def payer_by_order(part, state, kind):
-    """Return who pays a fault in the state, "" for the owner."""
-    price, lives, most, terms = part
-    number = number_by_order(part, state, kind)
-    return "" if number is None else terms[number][0]
+    return [
+        (day, event, payer)
+        for day, (event, payer) in enumerate(entries_by_order(part, course))
+        if event != ""
+    ]
 
 
 def cost(part, course):

@@ -1,10 +1,10 @@
 """The least changes of terms after which nothing is left to the owner (11.1, 11.2)."""
 
-from coverterms.checks import check_number, is_tuple
+from coverterms.checks import is_tuple
 from coverterms.days import check_kind
 from coverterms.errors import InvalidTerms
 from coverterms.gaps import can_be_left
-from coverterms.parts import check_part, is_part, is_term, with_term
+from coverterms.parts import check_part, check_term_number, is_part, is_term, with_term
 
 MOST_DAYS = 6
 MOST_OFFERS = 4
@@ -20,8 +20,7 @@ def with_days(part, number, days):
 def least_days(part, number, kind):
     """Return the least days of the term with which no fault of the kind is left."""
     check_part(part)
-    price, lives, most, terms = part
-    check_number(number, 0, len(terms) - 1)
+    check_term_number(part, number)
     check_kind(kind)
     # All numbers of days are tried, since TooLarge counts for each of them.
     enough = [

@@ -1,6 +1,6 @@
 """Parts and their terms (1.1, 1.2)."""
 
-from coverterms.checks import is_kind, is_kinds, is_number, is_tuple, is_word
+from coverterms.checks import check_number, is_kind, is_kinds, is_number, is_tuple, is_word
 from coverterms.errors import InvalidPart, InvalidTerms
 
 RENEWALS = ("anew", "rest")
@@ -71,6 +71,12 @@ def check_part(part):
     """Raise InvalidPart if part is not a part."""
     if not is_part(part):
         raise InvalidPart("not a part")
+
+
+def check_term_number(part, number):
+    """Raise InvalidNumber if number is not the number of a term of the part."""
+    price, lives, most, terms = part
+    check_number(number, 0, len(terms) - 1)
 
 
 def payers(part):

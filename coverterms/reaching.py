@@ -1,11 +1,10 @@
 """All states that courses lead to, and who ever pays (4.1 to 4.3)."""
 
 from coverterms.checks import KINDS
-from coverterms.courses import payer_by_order
 from coverterms.days import check_kind, check_state
 from coverterms.graphs import first_courses, graph_by_order
 from coverterms.parts import check_part, payers
-from coverterms.rules import possible_events
+from coverterms.rules import payer_by_order, possible_events
 
 
 def all_states(part):

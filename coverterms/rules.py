@@ -61,6 +61,17 @@ def number_by_order(part, state, kind):
     return numbers[0] if len(numbers) > 0 else None
 
 
+def payer_of(part, number):
+    """Return the payer of the term with the number, "" for the owner."""
+    price, lives, most, terms = part
+    return "" if number is None else terms[number][0]
+
+
+def payer_by_order(part, state, event):
+    """Return who pays on a day with an event, "" for the owner and if there is no fault."""
+    return "" if event == "" else payer_of(part, number_by_order(part, state, event))
+
+
 def row_after_claim(term, row):
     """Return the days and claims left of a term after its payer has paid."""
     payer, days, kinds, renewal, claims, sale = term
@@ -103,12 +114,23 @@ def state_after_fault(part, state, number):
     return state_at_end_of_day(part, 0, rows_after_claim(part, rows, number))
 
 
+def state_after_quiet(part, state):
+    """Return the state after a day without a fault, whether it is possible or not."""
+    age, rows = state
+    return state_at_end_of_day(part, age, rows)
+
+
+def state_after_day(part, state, event, number):
+    """Return the state after a day with an event; the told one pays if it is a fault."""
+    if event == "":
+        return state_after_quiet(part, state)
+    return state_after_fault(part, state, number)
+
+
 def state_by_order(part, state, event):
     """Return the state after a day with an event, by the order."""
-    if event == "":
-        age, rows = state
-        return state_at_end_of_day(part, age, rows)
-    return state_after_fault(part, state, number_by_order(part, state, event))
+    number = None if event == "" else number_by_order(part, state, event)
+    return state_after_day(part, state, event, number)
 
 
 def paid_by_order(part, state, event):

@@ -104,6 +104,33 @@ INTERFACE = {
         "faults_for": "part many cost", "are_goods": "candidate",
         "greatest_of_all": "goods many faults", "worst_shares": "goods many faults",
     },
+    "refusals": {
+        "reasons": "part state number kind", "uncovered": "part state",
+        "closing": "part state", "days_open": "part state kind",
+    },
+    "audits": {
+        "is_record": "part candidate", "record_of": "part course", "is_allowed": "part record",
+        "bill": "part record", "first_wrong": "part record", "first_off": "part record",
+        "fewest_changes": "part record", "mended": "part record", "least_bill": "part course",
+        "best_record": "part course", "lost": "part record",
+    },
+}
+CLASSES = {
+    "workshop": {
+        "Workshop": {
+            "__init__": "part", "state": "", "events": "", "record": "", "bill": "", "quiet": "",
+            "fault": "kind", "ask": "kind number", "buy": "kind", "undo": "", "redo": "",
+            "copy": "", "__eq__": "other", "__len__": "",
+        },
+    },
+    "depot": {
+        "Depot": {
+            "__init__": "", "add": "name part", "remove": "name", "state": "name",
+            "bill": "name", "names": "", "day": "faults", "days": "", "bills": "", "owed": "",
+            "save": "name", "editions": "", "load": "name", "dearer": "name", "undo": "",
+            "redo": "", "copy": "", "__eq__": "other", "__len__": "",
+        },
+    },
 }
 
 
@@ -132,6 +159,25 @@ def defined(tree):
         if isinstance(node, ast.Assign):
             names += [target.id for target in node.targets]
     return names
+
+
+def classes():
+    """Return the classes of all files that have methods."""
+    found = [node for path, tree in trees() for node in tree.body if isinstance(node, ast.ClassDef)]
+    return [node for node in found if methods(node)]
+
+
+def methods(node):
+    """Return the methods of a class."""
+    return [child for child in node.body if isinstance(child, ast.FunctionDef)]
+
+
+def attributes(node):
+    """Return the names of the attributes that a class assigns."""
+    return [
+        child.attr for child in ast.walk(node)
+        if isinstance(child, ast.Attribute) and isinstance(child.ctx, ast.Store)
+    ]
 
 
 def imported(tree):
@@ -216,14 +262,59 @@ class Form(unittest.TestCase):
             for name in locals_here:
                 self.assertNotIn(name, imported(tree), path.name)
 
+    def test_classes(self):
+        taken = [name for kind in (str, int, list, dict, set, bytes, tuple) for name in dir(kind)]
+        for node in classes():
+            names = [method.name for method in methods(node)]
+            self.assertEqual(len(names), len(set(names)), node.name)
+            self.assertEqual(set(names) & set(attributes(node)), set(), node.name)
+            for name in names + attributes(node):
+                self.assertNotIn(name, WORDS, node.name)
+                if name.startswith("__"):
+                    self.assertIn(name, ["__init__", "__eq__", "__len__"], node.name)
+                elif name not in ("add", "remove", "copy"):
+                    self.assertNotIn(name, taken, node.name)
+                    self.assertRegex(name, r"^_?[a-z][a-z_]*$", node.name)
+                    self.assertNotRegex(name, r"^_(wall|pe_|dcw_|enum_|cm_|twin_re_|lay_|law_|stub_"
+                                              r"|sre|cold|tuplegetter|outside|record|written_out"
+                                              r"|member_names)", node.name)
+            for child in node.body:
+                # A docstring, or a method
+                self.assertIsInstance(child, (ast.Expr, ast.FunctionDef), node.name)
+
+    def test_equality_and_length_change_nothing(self):
+        for node in classes():
+            for method in methods(node):
+                if method.name in ("__eq__", "__len__"):
+                    self.assertIsInstance(method.body[-1], ast.Return)
+                    for child in ast.walk(method):
+                        self.assertNotIsInstance(child, (ast.Assign, ast.AugAssign, ast.Delete))
+                        if isinstance(child, ast.Call):
+                            self.assertIn(child.func.id, ["isinstance", "len"])
+                if method.name == "__len__":
+                    self.assertEqual(len(method.body), 1)
+                    self.assertEqual(method.body[0].value.func.id, "len")
+
+    def test_no_set_is_stored(self):
+        # A class has a method called add, so that no set may have it (L24).
+        for path, tree in trees():
+            for node in ast.walk(tree):
+                if isinstance(node, ast.Assign):
+                    value = node.value
+                    self.assertNotIsInstance(value, (ast.Set, ast.SetComp), path.name)
+                    if isinstance(value, ast.Call) and isinstance(value.func, ast.Name):
+                        self.assertNotEqual(value.func.id, "set", path.name)
+
     def test_builtins_and_methods(self):
+        own = [method.name for node in classes() for method in methods(node)]
+        own += [name for node in classes() for name in attributes(node)]
         for path, tree in trees():
             known = defined(tree) + imported(tree) + bound(tree) + BUILTINS
             for node in ast.walk(tree):
                 if isinstance(node, ast.Name) and isinstance(node.ctx, ast.Load):
                     self.assertIn(node.id, known, path.name)
                 if isinstance(node, ast.Attribute):
-                    self.assertIn(node.attr, METHODS, path.name)
+                    self.assertIn(node.attr, METHODS + own, path.name)
 
     def test_is_stands_beside_none_true_and_false(self):
         for path, tree in trees():
@@ -248,3 +339,14 @@ class Interface(unittest.TestCase):
                 found = getattr(module, function)
                 self.assertEqual(found.__module__, module.__name__)
                 self.assertEqual(list(inspect.signature(found).parameters), parameters.split())
+
+    def test_methods(self):
+        for name, found in CLASSES.items():
+            module = importlib.import_module(f"coverterms.{name}")
+            for word, wanted in found.items():
+                cls = getattr(module, word)
+                self.assertEqual(cls.__module__, module.__name__)
+                self.assertEqual(cls.__bases__, (object,))
+                for method, parameters in wanted.items():
+                    signature = inspect.signature(vars(cls)[method])
+                    self.assertEqual(list(signature.parameters), ["self"] + parameters.split())
