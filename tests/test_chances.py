@@ -9,7 +9,6 @@ from coverterms.chances import is_weights, mean_cost
 from coverterms.errors import InvalidCourse, InvalidKind, InvalidNumber, InvalidPart
 from coverterms.errors import InvalidWeights, OtherLives, TooLarge
 from coverterms.keeping import surely_free
-from tests.model import Model
 from tests.samples import BARE, DEEP, DEEP_LIST, FULL, HUGE, KEPT, NARROW, ODD, OTHERS, OVER
 from tests.samples import PUMP, WIDE, pairs_of, random_parts, small_parts
 from tests.slow import beginning, closure, days_from, walks

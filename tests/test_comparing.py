@@ -7,7 +7,7 @@ from coverterms.comparing import as_dear, greatest_difference, has_circle, idle_
 from coverterms.comparing import most_gained, never_dearer, parting_course
 from coverterms.courses import cost
 from coverterms.errors import InvalidPart, OtherLives, TooLarge, TooLong
-from tests.samples import BARE, HUGE, KEPT, NARROW, OTHERS, PAIR, PAIR_OVER, PARTING, PUMP
+from tests.samples import BARE, HUGE, KEPT, OTHERS, PAIR, PAIR_OVER, PARTING, PUMP
 from tests.samples import pairs_of, random_parts, random_terms, small_parts
 from tests.slow import beginning, common_days, follow, greatest_gain, pair_moves, walks
 from tests.wrong import BAD_PARTS, at, check_error, check_errors

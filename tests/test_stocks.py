@@ -12,7 +12,7 @@ from coverterms.stocks import greatest_with, worst_shares
 from tests.samples import BARE, DEEP, DEEP_LIST, FULL, HUGE, KEPT, NARROW, ODD, OVER, PUMP, WIDE
 from tests.samples import small_parts
 from tests.slow import beginning, days_from, walks
-from tests.wrong import BAD_PARTS, at, bad_numbers, check_error, check_errors
+from tests.wrong import BAD_PARTS, at, bad_numbers, check_errors
 
 BAD_GOODS = [value for value in ODD if value != (PUMP,)] + [
     PUMP, [PUMP], [PUMP, BARE], (PUMP,) * 5, (PUMP, BARE) * 3, ((PUMP,),), (PUMP, (BARE,)),
